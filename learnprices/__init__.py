@@ -1,0 +1,1 @@
+"""Learnprices: prices that move as goods sell."""
