@@ -74,6 +74,12 @@ def first_prices(market):
     return tuple([seller[0] for seller in sellers])
 
 
+def comes(buyer, day):
+    """Whether this buyer comes on this day."""
+    every, first, _ = buyer
+    return day % every == first
+
+
 def good_for(worths, prices, left):
     """The good that a buyer takes of what is left, or None."""
     # The least of these rows is the good worth most above its price, then the cheapest, then the first.
@@ -99,10 +105,10 @@ def day_done(market, prices, day):
     sellers, buyers = market
     left = [seller[1] for seller in sellers]
     bought = []
-    for every, first, worths in buyers:
+    for buyer in buyers:
         good = None
-        if day % every == first:
-            good = good_for(worths, prices, left)
+        if comes(buyer, day):
+            good = good_for(buyer[2], prices, left)
         if good is not None:
             left[good] -= 1
         bought.append(good)

@@ -1,5 +1,6 @@
 """The document's days done plainly, one after another, and markets to try them on."""
 
+import itertools
 import random
 
 # Prices rise by two when sold, and fall by one when not: a round of six days from day 7 on.
@@ -94,22 +95,62 @@ def walked(market):
     return None
 
 
-def some_markets(many, seed):
-    """Markets of all kinds, the same ones each time."""
+def had_prices(market):
+    """All prices that the sellers can have, rising."""
+    return list(itertools.product(*[range(seller[4], seller[5] + 1) for seller in market[0]]))
+
+
+def come_to(market, prices):
+    """The prices which don't change any more to which these come from day 0 on, or None."""
+    seen = []
+    while (prices, len(seen) % 12) not in seen:
+        seen.append((prices, len(seen) % 12))
+        _, prices = one_day(market, prices, len(seen) - 1)
+    around = {had for had, _ in seen[seen.index((prices, len(seen) % 12)):]}
+    return prices if around == {prices} else None
+
+
+def dealings(market, day):
+    """All dealings of a day."""
+    goods = range(len(market[0]))
+    choices = [[None, *goods] if number in comers(market, day) else [None] for number in range(len(market[1]))]
+    return [list(dealing) for dealing in itertools.product(*choices)
+            if all(dealing.count(good) <= market[0][good][1] for good in goods)]
+
+
+def worth_of(market, dealing):
+    """The sum of worths that a dealing has."""
+    return sum(market[1][number][2][good] for number, good in enumerate(dealing) if good is not None)
+
+
+def do_support(market, day, dealing, prices):
+    """Whether the prices support the dealing."""
+    for good, price in enumerate(prices):
+        if price != 0 and dealing.count(good) < market[0][good][1]:
+            return False
+    for number in comers(market, day):
+        above = [worth - price for worth, price in zip(market[1][number][2], prices)] + [0]
+        if max(above) > above[-1 if dealing[number] is None else dealing[number]]:
+            return False
+    return True
+
+
+def some_markets(many, seed, sellers=4, buyers=6, width=20, worth=35):
+    """Markets of all kinds, of so many sellers and buyers at the most, the same ones each time."""
     chance = random.Random(seed)
-    return [_some_market(chance) for _ in range(many)]
+    return [_some_market(chance, sellers, buyers, width, worth) for _ in range(many)]
 
 
-def _some_market(chance):
+def _some_market(chance, most_sellers, most_buyers, width, most_worth):
     sellers = []
-    for _ in range(chance.randint(0, 4)):
+    for _ in range(chance.randint(0, most_sellers)):
         low = chance.randint(0, 12)
-        high = chance.randint(low, low + 20)
+        high = chance.randint(low, low + width)
         sellers.append((chance.randint(low, high), chance.randint(1, 3), chance.randint(0, 9),
                         chance.randint(0, 9), low, high))
     buyers = []
-    for _ in range(chance.randint(0, 6)):
+    for _ in range(chance.randint(0, most_buyers)):
         every = chance.randint(1, 4)
-        worths = tuple(chance.randint(0, 35) for _ in sellers)
+        worths = tuple(chance.randint(0, most_worth) for _ in sellers)
         buyers.append((every, chance.randint(0, every - 1), worths))
     return tuple(sellers), tuple(buyers)

@@ -1,10 +1,8 @@
 """Many days, near and far: point 5."""
 
-import inspect
-import unittest
-
 from learnprices.days import after, days, period, settles
 from learnprices.errors import BadCount, TooMany
+from tests.checks import Checks
 from tests.plain import (DAYS_5000, DAYS_5001, LATE, LONG, ROUND, comers, many_days, some_markets, sums, walked)
 
 NOBODY = ((), ())
@@ -36,14 +34,6 @@ def plain_settles(market):
     return (first, told[first][0]) if first < 500 else None
 
 
-class Checks(unittest.TestCase):
-    def refused(self, error, call, *given):
-        with self.assertRaises(error) as held:
-            call(*given)
-        self.assertIs(held.exception.__class__, error)
-        self.assertEqual(vars(held.exception), {})
-
-
 class DaysTest(Checks):
     def test_ordinary_days(self):
         told = [((20,), [0]), ((22,), [None]), ((21,), [0]), ((23,), [None]), ((22,), [0])]
@@ -58,7 +48,7 @@ class DaysTest(Checks):
 
     def test_other_counts_are_refused(self):
         for many in (-1, 501, 10 ** 5000):
-            self.refused(BadCount, days, ROUND, many)
+            self.refused(BadCount, {}, days, ROUND, many)
 
     def test_the_days_are_as_they_are_done_plainly(self):
         for market in some_markets(60, 5):
@@ -94,7 +84,7 @@ class AfterTest(Checks):
 
     def test_other_counts_are_refused(self):
         for many in (-1, 10 ** 12 + 1, 10 ** 5000):
-            self.refused(BadCount, after, ROUND, many)
+            self.refused(BadCount, {}, after, ROUND, many)
 
     def test_the_sums_are_as_they_are_plainly(self):
         for market in some_markets(40, 6):
@@ -184,21 +174,21 @@ class TooManyTest(Checks):
 
     def test_more_are_refused(self):
         for market in (DAYS_5001, LONG):
-            self.refused(TooMany, period, market)
-            self.refused(TooMany, settles, market)
+            self.refused(TooMany, {}, period, market)
+            self.refused(TooMany, {}, settles, market)
             for many in (0, 1, 5000, 10 ** 12):
-                self.refused(TooMany, after, market, many)
+                self.refused(TooMany, {}, after, market, many)
 
     def test_twelve_divides_though_no_buyer_needs_it(self):
         # Rounds of 17, 13 and 11 days make one of 2,431 days, but twelve must divide it, too.
         market = (tuple(LONG[0][:3]), tuple((1, 0, worths[:3]) for _, _, worths in LONG[1][:3]))
-        self.refused(TooMany, period, market)
+        self.refused(TooMany, {}, period, market)
         two = (tuple(LONG[0][:2]), tuple((1, 0, worths[:2]) for _, _, worths in LONG[1][:2]))
         self.assertEqual(period(two), (0, 221))
 
     def test_counts_are_refused_ahead_of_it(self):
         for many in (-1, 10 ** 12 + 1):
-            self.refused(BadCount, after, LONG, many)
+            self.refused(BadCount, {}, after, LONG, many)
 
 
 class FormTest(Checks):
@@ -218,4 +208,4 @@ class FormTest(Checks):
         self.assertEqual(settles(market=SLOW), (4, (8,)))
         for call, names in ((days, ["market", "many"]), (after, ["market", "many"]),
                             (period, ["market"]), (settles, ["market"])):
-            self.assertEqual(list(inspect.signature(call).parameters), names)
+            self.named(call, names, "learnprices.days")

@@ -20,7 +20,12 @@ INTERFACE = {
                   "BadDeed", "BadText"),
     "markets.py": ("day_of",),
     "days.py": ("days", "after", "period", "settles"),
+    "steady.py": ("stays", "steady", "pulls"),
+    "dealing.py": ("best", "gain_of", "least_prices", "greatest_prices", "supports"),
+    "fairs.py": ("Fair", "again"),
+    "notes.py": ("written", "read"),
 }
+METHODS = ("__init__", "begin", "come", "leave", "mark", "day", "prices_now", "market", "takings", "deeds")
 
 
 def files():
@@ -81,3 +86,8 @@ class LanguageTest(unittest.TestCase):
             defined = [node.name for node in tree.body if isinstance(node, (ast.FunctionDef, ast.ClassDef))]
             self.assertLessEqual(set(listed), set(defined), name)
             self.assertEqual(len(defined), len(set(defined)), name)
+
+    def test_the_methods_of_a_fair_are_defined_in_its_class(self):
+        tree = ast.parse((FOLDER / "fairs.py").read_text(encoding="ascii"))
+        fair, = [node for node in tree.body if isinstance(node, ast.ClassDef)]
+        self.assertEqual([node.name for node in fair.body if isinstance(node, ast.FunctionDef)], list(METHODS))

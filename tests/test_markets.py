@@ -1,39 +1,51 @@
 """Markets, what they refuse, and a day: points 2 to 4."""
 
-import inspect
-import unittest
-
-from learnprices import days as far
-from learnprices import markets as near
 from learnprices.days import after, days, period, settles
-from learnprices.errors import BadBuyer, BadCount, BadPrices, BadSeller
+from learnprices.dealing import best, gain_of, greatest_prices, least_prices, supports
+from learnprices.errors import BadBuyer, BadCount, BadPrices, BadSeller, NoBuyer, TooMany
 from learnprices.markets import day_of
+from learnprices.notes import written
+from learnprices.steady import pulls, stays, steady
+from tests.checks import Checks
 from tests.plain import LONG, many_days, one_day, some_markets
 
 SELLER = (20, 2, 3, 1, 10, 30)
 LEAST = (0, 1, 0, 0, 0, 0)
 GREATEST = (99, 5, 9, 9, 99, 99)
 ALL_CALLS = {
-    "day_of": lambda market: day_of(market, tuple(seller[0] for seller in market[0][:4]), 0),
+    "day_of": lambda market: day_of(market, first_prices(market), 0),
     "days": lambda market: days(market, 1),
     "after": lambda market: after(market, 1),
     "period": period,
     "settles": settles,
+    "stays": lambda market: stays(market, first_prices(market)),
+    "steady": steady,
+    "pulls": pulls,
+    "best": lambda market: best(market, 0),
+    "gain_of": lambda market: gain_of(market, 0, 0),
+    "least_prices": lambda market: least_prices(market, 0),
+    "greatest_prices": lambda market: greatest_prices(market, 0),
+    "supports": lambda market: supports(market, 0, [None] * len(market[1]), first_prices(market)),
+    "written": written,
 }
 BAD_CALLS = {
     "day_of": lambda market: day_of(market, (-1,), -1),
     "days": lambda market: days(market, -1),
     "after": lambda market: after(market, -1),
+    "stays": lambda market: stays(market, (-1,)),
+    "best": lambda market: best(market, -1),
+    "gain_of": lambda market: gain_of(market, -1, -1),
+    "least_prices": lambda market: least_prices(market, -1),
+    "greatest_prices": lambda market: greatest_prices(market, -1),
+    "supports": lambda market: supports(market, -1, [-1], (-1,)),
 }
 
 
-class Checks(unittest.TestCase):
-    def refused(self, error, value, call, *given, **named):
-        with self.assertRaises(error) as held:
-            call(*given, **named)
-        self.assertIs(held.exception.__class__, error)
-        self.assertEqual(vars(held.exception), value)
+def first_prices(market):
+    return tuple(seller[0] if seller else 0 for seller in market[0])
 
+
+class MarketChecks(Checks):
     def everywhere(self, error, number, sellers, buyers):
         for name, call in ALL_CALLS.items():
             with self.subTest(name=name, sellers=sellers, buyers=buyers):
@@ -42,10 +54,15 @@ class Checks(unittest.TestCase):
     def fine(self, sellers, buyers):
         for name, call in ALL_CALLS.items():
             with self.subTest(name=name, sellers=sellers, buyers=buyers):
-                call((sellers, buyers))
+                try:
+                    call((sellers, buyers))
+                except TooMany:
+                    self.assertIn(name, ("steady", "pulls"))
+                except NoBuyer:
+                    self.assertEqual((name, buyers), ("gain_of", ()))
 
 
-class SellersTest(Checks):
+class SellersTest(MarketChecks):
     def test_none_one_and_four_can_be(self):
         for many in range(5):
             self.fine((SELLER,) * many, ())
@@ -71,12 +88,7 @@ class SellersTest(Checks):
     def test_tuples_of_other_counts_and_things_are_refused(self):
         for bad in ((), SELLER[:5], SELLER + (1,), (1,), ("20", 2, 3, 1, 10, 30), (20, 2, 3, 1, None, 30),
                     (20, True, 3, 1, 10, 30), ((20,), 2, 3, 1, 10, 30), (20, 2, 3, 1, 10, (30,))):
-            sellers = (SELLER, bad)
-            for call in (days, after):
-                self.refused(BadSeller, {"number": 1}, call, (sellers, ()), 1)
-            for call in (period, settles):
-                self.refused(BadSeller, {"number": 1}, call, (sellers, ()))
-            self.refused(BadSeller, {"number": 1}, day_of, (sellers, ()), (20, 20), 0)
+            self.everywhere(BadSeller, 1, (SELLER, bad), ())
 
     def test_a_fifth_is_refused_behind_the_four(self):
         self.everywhere(BadSeller, 4, (SELLER,) * 5, ())
@@ -86,7 +98,7 @@ class SellersTest(Checks):
         self.everywhere(BadSeller, 3, (SELLER,) * 3 + (bad, SELLER), ())
 
 
-class BuyersTest(Checks):
+class BuyersTest(MarketChecks):
     def test_none_and_six_can_be(self):
         self.fine((SELLER,), ())
         self.fine((SELLER,), ((1, 0, (20,)),) * 6)
@@ -128,8 +140,9 @@ class BuyersTest(Checks):
                 self.refused(BadSeller, {"number": 0}, call, (((20, 0, 3, 1, 10, 30),), ()))
                 self.refused(BadBuyer, {"number": 0}, call, ((SELLER,), ((1, 1, (20,)),)))
         late = LONG[1] + ((0, 0, (0, 0, 0, 0)),)
-        for name in ("after", "period", "settles"):
+        for name in ("after", "period", "settles", "steady", "pulls"):
             with self.subTest(name=name):
+                self.refused(TooMany, {}, ALL_CALLS[name], LONG)
                 self.refused(BadBuyer, {"number": 4}, ALL_CALLS[name], (LONG[0], late))
 
 
@@ -206,10 +219,7 @@ class DayTest(Checks):
         market = ((SELLER,), ((1, 0, (20,)),))
         bought, behind = told = day_of(market=market, prices=(20,), day=3)
         self.assertEqual((told.__class__, bought.__class__, behind.__class__), (tuple, list, tuple))
-        self.assertEqual(list(inspect.signature(day_of).parameters), ["market", "prices", "day"])
-        self.assertEqual(day_of.__module__, near.__name__)
-        for call in (days, after, period, settles):
-            self.assertEqual(call.__module__, far.__name__)
+        self.named(day_of, ["market", "prices", "day"], "learnprices.markets")
 
 
 class DayRefusedTest(Checks):
