@@ -91,3 +91,23 @@ class LanguageTest(unittest.TestCase):
         tree = ast.parse((FOLDER / "fairs.py").read_text(encoding="ascii"))
         fair, = [node for node in tree.body if isinstance(node, ast.ClassDef)]
         self.assertEqual([node.name for node in fair.body if isinstance(node, ast.FunctionDef)], list(METHODS))
+
+    def test_no_local_name_is_that_of_an_import_or_a_class(self):
+        for path, tree in trees():
+            barred = {name.name for node in tree.body if isinstance(node, ast.ImportFrom) for name in node.names}
+            barred |= {node.name for node in tree.body if isinstance(node, ast.ClassDef)}
+            for node in ast.walk(tree):
+                if isinstance(node, ast.Name) and isinstance(node.ctx, ast.Store):
+                    self.assertNotIn(node.id, barred, path)
+                if isinstance(node, ast.arg):
+                    self.assertNotIn(node.arg, barred, path)
+                if isinstance(node, ast.MatchAs):
+                    self.assertNotIn(node.name, barred, path)
+
+    def test_no_name_is_a_method_and_an_attribute(self):
+        for path, tree in trees():
+            for box in [node for node in tree.body if isinstance(node, ast.ClassDef)]:
+                methods = {node.name for node in box.body if isinstance(node, ast.FunctionDef)}
+                stored = {node.attr for node in ast.walk(box)
+                          if isinstance(node, ast.Attribute) and isinstance(node.ctx, ast.Store)}
+                self.assertEqual(methods & stored, set(), (path, box.name))
